@@ -1,0 +1,1 @@
+"""An office that keeps a program's texts, their translations, packages and releases."""

@@ -1,0 +1,54 @@
+"""The interface: a list of calls goes in, the list of their answers comes out."""
+
+from tongueoffice.records import Records
+
+TEXT = 0
+GONE = 1
+TRANSLATE = 2
+SEND = 3
+BACK = 4
+CHOOSE = 5
+# The call that is left, release, is 6.
+
+# By the call's number: how many whole numbers stand ahead of its row, if any.
+WHOLE_NUMBERS = (2, 1, 3, 1, 1, 4, 1)
+CALLS_WITH_A_ROW = (SEND, BACK)
+
+
+def answers(calls):
+    records = Records()
+    told = []
+    at = 0
+    while at < len(calls):
+        call = calls[at]
+        row_at = at + 1 + WHOLE_NUMBERS[call]
+        numbers = calls[at + 1:row_at]
+        row = []
+        at = row_at
+        if call in CALLS_WITH_A_ROW:
+            at = row_at + 1 + calls[row_at]
+            row = calls[row_at + 1:at]
+        answer = answer_of(records, call, numbers, row)
+        told.append(len(answer))
+        told.extend(answer)
+    return told
+
+
+def answer_of(records, call, numbers, row):
+    if call == TEXT:
+        return records.set_text(numbers[0], numbers[1])
+    if call == GONE:
+        return records.drop_key(numbers[0])
+    if call == TRANSLATE:
+        return records.set_translation(numbers[0], numbers[1], numbers[2])
+    if call == SEND:
+        return records.send_package(numbers[0], row)
+    if call == BACK:
+        return records.take_back(numbers[0], pairs_of(row))
+    if call == CHOOSE:
+        return records.choose_one((numbers[0], numbers[1], numbers[2]), numbers[3])
+    return records.add_release(numbers[0])
+
+
+def pairs_of(row):
+    return [(row[at], row[at + 1]) for at in range(0, len(row), 2)]
