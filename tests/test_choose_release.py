@@ -2,7 +2,7 @@
 
 import unittest
 
-from tests.line import LARGEST, last, run, texts
+from tests.line import LARGEST, SIX, fifty_four_works, last, pairs, run, texts
 from tongueoffice.records import Records
 
 
@@ -76,7 +76,18 @@ class Choose(unittest.TestCase):
 
 
 class ChooseAtSixty(unittest.TestCase):
-    """No line of 40 calls has 60 works and something open besides: the records are asked."""
+    def test_of_a_place_that_has_work(self):
+        full = fifty_four_works() + [
+            ("send", 1, SIX), ("translate", 1, 0, 10), ("back", 9, pairs(SIX, 500)),
+        ]
+        self.assertEqual(last(full), [5, 3, 2, 2, 2, 2, 2])
+        self.assertEqual(last(full + [("choose", 1, 0, 3, 1)]), [6, 60, 10, 0, 0])
+        self.assertEqual(last(full + [("choose", 1, 0, 3, 0)]), [6, 60, 10, 0, 0])
+        self.assertEqual(last(full + [("choose", 1, 1, 3, 1)]), [-2])
+
+
+class ChooseBeyondALine(unittest.TestCase):
+    """No line of 40 calls chooses at 60 works what has no work: the records are asked."""
 
     def office(self, base, ours, theirs):
         """60 works, and theirs open of tongue 3, key 9, text 1, which key 9 hasn't now."""
