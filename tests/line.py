@@ -2,7 +2,8 @@
 
 from tongueoffice.office import answers
 
-NAMES = ("text", "gone", "translate", "send", "back", "choose", "release")
+NAMES = ("text", "gone", "translate", "send", "back", "choose", "release",
+         "look", "now", "todo", "offer", "open", "changed", "state")
 LARGEST = 4294967295
 
 

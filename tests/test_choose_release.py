@@ -132,45 +132,6 @@ class ChooseBeyondALine(unittest.TestCase):
         self.assertEqual(self.office(4, 5, 0).choose_one((3, 9, 1), 1), [10, 59, 1, 0, 0])
 
 
-class OrderOfWhatIsOpen(unittest.TestCase):
-    """None of these calls tells the order: the records are asked."""
-
-    def office(self):
-        records = Records()
-        for key in (1, 2, 3):
-            records.set_text(key, 1)
-        for number in (0, 1):
-            records.send_package(0, [1, 2, 3])
-        for key in (1, 2, 3):
-            records.set_translation(0, key, 5)
-        records.take_back(0, [(3, 6), (1, 6), (2, 6)])
-        return records
-
-    def test_as_it_came_to_be_open(self):
-        self.assertEqual(list(self.office().unsettled.items()), [
-            ((0, 3, 1), 6), ((0, 1, 1), 6), ((0, 2, 1), 6),
-        ])
-
-    def test_what_is_open_instead_of_an_elder_one_stands_last(self):
-        records = self.office()
-        self.assertEqual(records.take_back(1, [(3, 7)]), [0, 3])
-        self.assertEqual(list(records.unsettled.items()), [
-            ((0, 1, 1), 6), ((0, 2, 1), 6), ((0, 3, 1), 7),
-        ])
-
-    def test_as_it_was_sent_leaves_the_order(self):
-        records = self.office()
-        self.assertEqual(records.take_back(0, [(3, 6)]), [0, 1])
-        self.assertEqual(list(records.unsettled.items()), [
-            ((0, 3, 1), 6), ((0, 1, 1), 6), ((0, 2, 1), 6),
-        ])
-
-    def test_closed_in_the_middle(self):
-        records = self.office()
-        records.choose_one((0, 1, 1), 1)
-        self.assertEqual(list(records.unsettled.items()), [((0, 3, 1), 6), ((0, 2, 1), 6)])
-
-
 class Release(unittest.TestCase):
     def test_tongue_edges(self):
         found = run([
@@ -205,23 +166,6 @@ class Release(unittest.TestCase):
 
     def test_the_refusal_told_first(self):
         self.assertEqual(last([("release", 0)] * 12 + [("release", 4)]), [-1])
-
-    def test_it_stays_as_it_was(self):
-        """None of these calls tells what a release has: the records are asked."""
-        records = Records()
-        records.set_text(8, 2)
-        records.set_text(7, 1)
-        records.set_translation(0, 7, 5)
-        records.add_release(0)
-        kept = {7: (5, 1), 8: (2, 0)}
-        self.assertEqual(records.releases, [kept])
-        records.set_translation(0, 7, 6)
-        records.set_translation(0, 8, 6)
-        records.set_text(8, 3)
-        records.drop_key(7)
-        records.add_release(0)
-        self.assertEqual(records.releases, [kept, {8: (3, 0)}])
-        self.assertEqual(list(records.releases[0]), [7, 8])
 
 
 if __name__ == "__main__":

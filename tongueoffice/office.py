@@ -8,10 +8,17 @@ TRANSLATE = 2
 SEND = 3
 BACK = 4
 CHOOSE = 5
-# The call that is left, release, is 6.
+RELEASE = 6
+LOOK = 7
+NOW = 8
+TODO = 9
+OFFER = 10
+STILL_OPEN = 11
+CHANGED = 12
+# The call that is left, state, is 13.
 
 # By the call's number: how many whole numbers stand ahead of its row, if any.
-WHOLE_NUMBERS = (2, 1, 3, 1, 1, 4, 1)
+WHOLE_NUMBERS = (2, 1, 3, 1, 1, 4, 1, 2, 1, 1, 2, 1, 2, 0)
 CALLS_WITH_A_ROW = (SEND, BACK)
 
 
@@ -47,7 +54,26 @@ def answer_of(records, call, numbers, row):
         return records.take_back(numbers[0], pairs_of(row))
     if call == CHOOSE:
         return records.choose_one((numbers[0], numbers[1], numbers[2]), numbers[3])
-    return records.add_release(numbers[0])
+    if call == RELEASE:
+        return records.add_release(numbers[0])
+    return told_by(records, call, numbers)
+
+
+# These calls change nothing.
+def told_by(records, call, numbers):
+    if call == LOOK:
+        return records.look_up(numbers[0], numbers[1])
+    if call == NOW:
+        return records.list_now(numbers[0])
+    if call == TODO:
+        return records.list_todo(numbers[0])
+    if call == OFFER:
+        return records.make_offer(numbers[0], numbers[1])
+    if call == STILL_OPEN:
+        return records.list_unsettled(numbers[0])
+    if call == CHANGED:
+        return records.list_changed(numbers[0], numbers[1])
+    return records.how_it_stands()
 
 
 def pairs_of(row):

@@ -8,6 +8,7 @@ NOT_AS_TOLD = -1
 MISSING = -2
 NOT_IN_PACKAGE = -3
 FULL = -5
+NOT_IN_RELEASE = -6
 
 LAST_KEY = 99
 LAST_TEXT = 999
@@ -56,6 +57,8 @@ class Records:
     def work_at(self, place):
         return self.work.get(place, 0)
 
+    # Popped first, so that work stands in the order in which it came last, also
+    # where the same number is told once more.
     def put_work(self, place, translation):
         self.work.pop(place, None)
         if translation > 0:
@@ -201,6 +204,72 @@ class Records:
             else:
                 shown[key] = (text, 0)
         return shown
+
+    def look_up(self, number, key):
+        if number >= len(self.releases):
+            return [MISSING]
+        shown = self.releases[number]
+        if key not in shown:
+            return [NOT_IN_RELEASE]
+        return list(shown[key])
+
+    def list_now(self, tongue):
+        if tongue > LAST_TONGUE:
+            return [NOT_AS_TOLD]
+        shown = self.shown_now(tongue)
+        answer = [len(shown)]
+        for key, row in shown.items():
+            answer.extend([key, row[0], row[1]])
+        return answer
+
+    def list_todo(self, tongue):
+        if tongue > LAST_TONGUE:
+            return [NOT_AS_TOLD]
+        shown = self.shown_now(tongue)
+        untranslated = [key for key in shown if shown[key][1] == 0]
+        answer = [len(untranslated)]
+        for key in untranslated:
+            answer.extend([key, self.source[key], self.offered_for(tongue, key)])
+        return answer
+
+    def make_offer(self, tongue, key):
+        if tongue > LAST_TONGUE:
+            return [NOT_AS_TOLD]
+        if key not in self.source:
+            return [MISSING]
+        text = self.source[key]
+        return [text, self.work_at((tongue, key, text)), self.offered_for(tongue, key)]
+
+    # Work under a key that the source hasn't any more is offered too, so all of
+    # the work is looked through, not the source.
+    def offered_for(self, tongue, key):
+        text = self.source[key]
+        same_text = [place[1] for place in self.work if place[0] == tongue and place[2] == text]
+        if len(same_text) > 0:
+            return self.work_at((tongue, min(same_text), text))
+        came_last = 0
+        for place, translation in self.work.items():
+            if place[0] == tongue and place[1] == key:
+                came_last = translation
+        return came_last
+
+    def list_unsettled(self, tongue):
+        if tongue > LAST_TONGUE:
+            return [NOT_AS_TOLD]
+        places = [place for place in self.unsettled if place[0] == tongue]
+        answer = [len(places)]
+        for place in places:
+            answer.extend([place[1], place[2], self.unsettled[place], self.work_at(place)])
+        return answer
+
+    def list_changed(self, number, another):
+        if number >= len(self.releases) or another >= len(self.releases):
+            return [MISSING]
+        first = self.releases[number]
+        second = self.releases[another]
+        changed = [key for key in first if key not in second or first[key] != second[key]]
+        changed.extend([key for key in second if key not in first])
+        return [len(changed)] + changed
 
 
 def fits_a_package(chosen):
